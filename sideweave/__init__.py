@@ -1,0 +1,1 @@
+"""Sideweave: the sides of branches woven into the fewest issued rows."""
