@@ -9,6 +9,38 @@ STRANGE = (
     [], {}, (), [1], {"a": 1}, (1,), ("a", "b"), ("set",), (None, None, None),
 )
 
+EXAMPLE = (("x",), (("if", "a", (("set", "x", 1), ("set", "x", ("+", "x", "b"))), (("set", "x", ("+", "x", "b")),)),))
+LOOP = (("i",), (("while", ("<", "i", 2), (("set", "i", ("+", "i", 1)),)),))
+SET_X = ("set", "x", 1)
+SET_Y = ("set", "y", 2)
+
+# What is no kernel, for functions that have other arguments, too.
+NO_KERNELS = STRANGE + (
+    EXAMPLE[1], [("x",), ()], (("x",), []), ((), ()), (("b", "a"), ()), (("x",), (("set", "x", True),)),
+    (("x",), (SET_X,) * 25), (("x",), (("while", "a", [SET_X]),)), (("x",), (("if", "a", ()),)),
+)
+LETTERS = "abcdefghijklmnopqrstuvwxyz"
+SIXTEEN = {letter: at for at, letter in enumerate(LETTERS[:16])}
+SEVENTEEN = {letter: at for at, letter in enumerate(LETTERS[:17])}
+
+# What no lane may start with.
+NO_STARTS = (
+    None, True, 0, "a", "", [], (), [("a", 1)], (("a", 1),), SEVENTEEN, {"a": None}, {"a": "b"}, {"a": True},
+    {"a": False}, {"a": -1}, {"a": 65536}, {"a": [1]}, {"a": ("+", 1, 2)}, {"A": 1}, {"": 1}, {"abcdefghi": 1},
+    {"a": 1, 0: 1}, {None: 1}, {("a",): 1}, {"a": 1, "b": 10 ** 19}, {"a b": 1}, {"a": {}},
+)
+
+# What is no launch.
+NO_LAUNCHES = tuple([start] for start in NO_STARTS) + tuple([{}, start] for start in NO_STARTS) + (
+    None, True, False, 0, 1, "a", "", (), {}, [], ({"a": 1},), ({},) * 3, {"a": 1}, {0: {}}, [{}] * 9, [[]], [[{}]],
+    [{}, None], [None, {}], [{}, {}, {}, {}, {}, {}, {}, {"a": True}], [{"a": 1}] * 9, [{"a": 65536}] * 8,
+)
+
+
+def loop_rows(many):
+    """Return a body whose trace has just so many rows, an odd number, the last one a test."""
+    return (("while", ("<", "i", many // 2), (("set", "i", ("+", "i", 1)),)),)
+
 
 def nested_term(levels, sign="+"):
     """Return a term with this many operators within one another, always in the second place."""
@@ -34,16 +66,41 @@ def deep(levels, make, inside):
     return thing
 
 
+def holders(thing):
+    """Return all lists and dicts within a value, each as often as it stands there."""
+    if isinstance(thing, dict):
+        return [thing] + [inner for key in thing for inner in holders(thing[key])]
+    if isinstance(thing, (list, tuple)):
+        inner = [inner for part in thing for inner in holders(part)]
+        return [thing] + inner if isinstance(thing, list) else inner
+    return []
+
+
 class Case(unittest.TestCase):
-    """A test case whose calls must leave their arguments as they were."""
+    """A test case whose calls must leave their arguments as they were, and return new lists and dicts."""
 
     def call(self, function, *arguments):
         """Return the answer of a call; fail if an argument was changed, also when the call raises."""
         before = copy.deepcopy(arguments)
         try:
-            return function(*arguments)
+            answer = function(*arguments)
         finally:
             self.assertEqual(repr(before), repr(arguments))
+        old = [id(thing) for thing in holders(arguments)]
+        new = [id(thing) for thing in holders(answer)]
+        self.assertEqual(len(new), len(set(new)), "a list or dict stands twice in an answer")
+        self.assertEqual(set(old) & set(new), set(), "a list or dict of an argument was returned")
+        return answer
+
+    def stays(self, function, *arguments):
+        """Fail if a change of one answer is seen in the next one; return the answer."""
+        first = self.call(function, *arguments)
+        kept = copy.deepcopy(first)
+        for thing in holders(first):
+            thing.clear()
+        again = self.call(function, *arguments)
+        self.assertEqual(again, kept)
+        return again
 
     def is_true(self, function, *arguments):
         self.assertIs(self.call(function, *arguments), True, repr(arguments)[:200])
