@@ -3,6 +3,9 @@
 import copy
 import unittest
 
+from sideweave.alone import end, trace
+from sideweave.errors import TooLong
+
 # What is no term, no body and no kernel, whatever stands around it.
 STRANGE = (
     None, True, False, -1, 65536, 10 ** 19, "", "A", "a1", "a b", "abcdefghi", "x" * 9000,
@@ -34,6 +37,16 @@ NO_STARTS = (
 NO_LAUNCHES = tuple([start] for start in NO_STARTS) + tuple([{}, start] for start in NO_STARTS) + (
     None, True, False, 0, 1, "a", "", (), {}, [], ({"a": 1},), ({},) * 3, {"a": 1}, {0: {}}, [{}] * 9, [[]], [[{}]],
     [{}, None], [None, {}], [{}, {}, {}, {}, {}, {}, {}, {"a": True}], [{"a": 1}] * 9, [{"a": 65536}] * 8,
+)
+
+# The weave of EXAMPLE that the document gives, and what is no weave of it.
+WOVEN = (("split", (0,), (("set", (0,), "x", 1), ("set", (0, 1), "x", ("+", "x", "b")))),)
+NO_WEAVES = STRANGE + (
+    WOVEN[0], [WOVEN[0]], (list(WOVEN[0]),), WOVEN * 2, WOVEN[0][2], (("loop",) + WOVEN[0][1:],),
+    (("split", (1,), WOVEN[0][2]),), (("split", (False,), WOVEN[0][2]),), (("split", [0], WOVEN[0][2]),),
+    (("split", (0,), list(WOVEN[0][2])),), (("split", (0,), WOVEN[0][2][::-1]),), (("split", (0,), WOVEN[0][2][:1]),),
+    (("split", (0,), WOVEN[0][2][1:]),), (("split", (0,), (("set", (0,), "x", True), WOVEN[0][2][1])),),
+    (("split", (0,), (("set", (0,), "y", 1), WOVEN[0][2][1])),), WOVEN + (("set", (0,), "x", 1),),
 )
 
 
@@ -113,3 +126,24 @@ class Case(unittest.TestCase):
         with self.assertRaises(error, msg=repr(arguments)[:200]) as caught:
             self.call(function, *arguments)
         self.assertIs(caught.exception.__class__, error, repr(arguments)[:200])
+
+
+class RunCase(Case):
+    """A test case for what lanes do together."""
+
+    def check_lanes(self, kernel, launch, ends, issues):
+        """Check that the lanes of each issue ascend, and that each lane does what it does alone."""
+        self.assertEqual(ends, [end(kernel, registers) for registers in launch])
+        for lane, registers in enumerate(launch):
+            self.assertEqual([row for row, lanes in issues if lane in lanes], trace(kernel, registers))
+        for row, lanes in issues:
+            self.assertIs(lanes.__class__, tuple)
+            self.assertTrue(lanes)
+            self.assertEqual(list(lanes), sorted(set(lanes)))
+
+    def too_long(self, lane, *arguments):
+        """Fail unless a call raises TooLong with this lane."""
+        with self.assertRaises(TooLong) as caught:
+            self.call(*arguments)
+        self.assertEqual(caught.exception.lane, lane)
+        self.assertIs(caught.exception.lane.__class__, lane.__class__)

@@ -14,31 +14,27 @@ def random_term(source, names, levels):
 
 
 def random_body(source, room, nested=3, ifs=2):
-    """Return a body with at most so many statements; most of its loops end."""
+    """Return a body with at most so many statements; most of its loops end, and many of its sets are the same."""
     body = []
-    while room > 0 and source.random() < 0.85:
+    while room > 0 and source.random() < 0.9:
         kind = source.random()
-        if kind < 0.5 or nested == 0 or (kind < 0.8 and ifs == 0):
-            body.append(source.choice(SETS) if source.random() < 0.7 else
-                        ("set", source.choice("abx"), random_term(source, "abx", 1)))
-            room -= 1
-        elif kind < 0.8:
-            first = random_body(source, (room - 1) // 2, nested - 1, ifs - 1)
-            second = random_body(source, (room - 1) // 2, nested - 1, ifs - 1)
-            body.append(("if", source.choice(TESTS), first, second))
-            room -= 1 + many_in(first) + many_in(second)
-        elif room > 1:
+        if nested and ifs and kind < 0.4:
+            inner = [random_body(source, (room - 1) // 2, nested - 1, ifs - 1) for _ in range(2)]
+            body.append(("if", source.choice(TESTS), inner[0], inner[1]))
+        elif nested and room > 1 and kind < 0.6:
             name = "ijk"[nested - 1]
             inner = random_body(source, room - 2, nested - 1, ifs) + (("set", name, ("+", name, 1)),)
             body.append(("while", ("<", name, source.choice(("a", "b", 2))), inner))
-            room -= 1 + many_in(inner)
+        elif kind < 0.95:
+            body.append(source.choice(SETS))
         else:
-            break
+            body.append(("set", source.choice("abx"), random_term(source, "abx", 1)))
+        room -= many_in(body[-1:])
     return tuple(body)
 
 
-SETS = (("set", "x", 1), ("set", "x", ("+", "x", "b")), ("set", "a", ("-", "a", 1)), ("set", "b", "a"), ("set", "i", 0))
-TESTS = ("a", "b", ("<", "x", "b"), ("=", "a", "b"))
+SETS = (("set", "x", 1), ("set", "x", ("+", "x", "b")), ("set", "a", ("-", "a", 1)))
+TESTS = ("a", "b", ("<", "x", "b"))
 
 
 def plain_items(bodies):
@@ -65,7 +61,7 @@ def random_kernel(source, room):
 
 def random_launch(source, lanes=8):
     """Return a launch of at most so many lanes."""
-    return [{name: source.randrange(4) for name in source.sample("abijkx", source.randrange(5))}
+    return [{name: source.randrange(3) for name in source.sample("abijkx", source.randrange(5))}
             for _ in range(source.randrange(1, lanes + 1))]
 
 
@@ -101,11 +97,13 @@ def items_from(bodies, done, sides, inside):
 
 
 def random_weave(source, bodies):
-    """Return a weave of these bodies."""
+    """Return a weave of these bodies, with many items of several sides."""
     done = (0,) * len(bodies)
     weave = ()
     while slow_choices(bodies, done):
         sides = source.choice(slow_choices(bodies, done))
+        if source.random() < 0.6:
+            sides = max(slow_choices(bodies, done), key=len)
         weave += tuple(items_from(bodies, done, sides, lambda inner: [random_weave(source, inner)]))
         done = after(done, sides)
     return weave
@@ -197,3 +195,88 @@ def slow_issues(kernel, weave, launch):
         for key, row in keyed_rows((kernel[1],), 0, weave, dict(registers), ()):
             table.setdefault(key, (row, []))[1].append(lane)
     return [(table[key][0], tuple(table[key][1])) for key in sorted(table)]
+
+
+def slow_visits(kernel, launches):
+    """Return the visits and the checks of all paths, as two dicts to ascending lists; a lane goes row by row."""
+    visited, checked = {}, {}
+    waiting = [((), kernel[1])]
+    while waiting:
+        path, body = waiting.pop()
+        visited[path] = []
+        for at, statement in enumerate(body):
+            if statement[0] == "while":
+                checked[path + (at, 0)] = []
+            if statement[0] != "set":
+                waiting += [(path + (at, number), inner) for number, inner in enumerate(statement[2:])]
+    for number, launch in enumerate(launches):
+        for registers in launch:
+            follow(kernel, dict(registers), number, visited, checked)
+    return [{path: sorted(set(table[path])) for path in table} for table in (visited, checked)]
+
+
+def follow(kernel, now, launch, visited, checked):
+    """Add what a lane visits and checks; a frame is a body, its path, its mark, its next statement, its turns."""
+    stack = [[kernel[1], (), (launch,), 0, 0]]
+    visited[()].append((launch,))
+    while stack:
+        frame = stack[-1]
+        body, path, mark, at, turn = frame
+        if at == len(body):
+            stack.pop()
+            continue
+        statement = body[at]
+        number = value(statement[2] if statement[0] == "set" else statement[1], now)
+        if statement[0] == "while":
+            checked[path + (at, 0)].append(mark + (turn,))
+        if statement[0] == "while" and number:
+            frame[4] += 1
+            inner, which, marks = statement[2], 0, mark + (turn,)
+        else:
+            frame[3], frame[4] = at + 1, 0
+            if statement[0] == "set":
+                now[statement[1]] = number
+            if statement[0] != "if":
+                continue
+            inner, which, marks = statement[2 if number else 3], 0 if number else 1, mark
+        visited[path + (at, which)].append(marks)
+        stack.append([inner, path + (at, which), marks, 0, 0])
+
+
+def slow_code(outputs, code, launch):
+    """Return the ends and the issues of a code, or None if they are too many; its masks are sets of lanes."""
+    nows = [dict(registers) for registers in launch]
+    masks = {mask: set() for mask in range(100)}
+    masks[0] = set(range(len(launch)))
+    issues, place, idle = [], 0, 0
+    while place != len(code):
+        instruction = code[place]
+        place += 1
+        idle += 1
+        lanes = set()
+        if instruction[0] in ("set", "join", "skip"):
+            lanes = set().union(*[masks[mask] for mask in instruction[1]])
+        if instruction[0] == "set":
+            for lane in lanes:
+                nows[lane][instruction[2]] = value(instruction[3], nows[lane])
+        elif instruction[0] == "test":
+            before = {mask: frozenset(masks[mask]) for mask in masks}
+            for source, _, _ in instruction[1]:
+                masks[source] = masks[source] - before[source]
+            for source, yes, no in instruction[1]:
+                lanes |= before[source]
+                for lane in before[source]:
+                    masks[yes if value(instruction[2], nows[lane]) else no].add(lane)
+        elif instruction[0] == "join":
+            for mask in instruction[1]:
+                masks[mask] = set()
+            masks[instruction[2]] |= lanes
+        elif instruction[0] == "back" or not lanes:
+            place = instruction[-1]
+        if lanes and instruction[0] in ("set", "test"):
+            row = ("set",) + instruction[2:] if instruction[0] == "set" else ("test", instruction[2])
+            issues.append((row, tuple(sorted(lanes))))
+            idle = 0
+        if idle > 2000 or len(issues) > 4000:
+            return None
+    return [{name: now.get(name, 0) for name in outputs} for now in nows], issues

@@ -3,11 +3,11 @@
 import random
 import unittest
 
-from samples import Case, EXAMPLE, LOOP, NO_KERNELS, NO_LAUNCHES, NO_STARTS, SET_X, SET_Y, SEVENTEEN, SIXTEEN
+from samples import (Case, EXAMPLE, LOOP, NO_KERNELS, NO_LAUNCHES, NO_STARTS, RunCase, SET_X, SET_Y, SEVENTEEN,
+                     SIXTEEN)
 from slow import plain_items, random_kernel, random_launch, slow_issues, slow_lane
 from sideweave import plain
-from sideweave.alone import end, trace
-from sideweave.errors import NoKernel, NoLaunch, TooLong
+from sideweave.errors import NoKernel, NoLaunch
 from sideweave.plain import is_launch, run_plain
 
 ADD = ("set", "x", ("+", "x", "b"))
@@ -16,30 +16,13 @@ TURNS = (("i",), (("while", ("<", "i", "n"), (STEP,)),))
 MORE = ("test", ("<", "i", "n"))
 
 
-class RunCase(Case):
+class PlainCase(RunCase):
     def check(self, kernel, launch, ends, issues):
         """Check the answer of run_plain, also against what each lane does alone."""
         found = self.call(run_plain, kernel, launch)
         self.assertIs(found.__class__, tuple)
         self.assertEqual(found, (ends, issues))
         self.check_lanes(kernel, launch, *found)
-
-    def check_lanes(self, kernel, launch, ends, issues):
-        """Check that the lanes of each issue ascend, and that each lane does what it does alone."""
-        self.assertEqual(ends, [end(kernel, registers) for registers in launch])
-        for lane, registers in enumerate(launch):
-            self.assertEqual([row for row, lanes in issues if lane in lanes], trace(kernel, registers))
-        for row, lanes in issues:
-            self.assertIs(lanes.__class__, tuple)
-            self.assertTrue(lanes)
-            self.assertEqual(list(lanes), sorted(set(lanes)))
-
-    def too_long(self, lane, *arguments):
-        """Fail unless a call raises TooLong with this lane."""
-        with self.assertRaises(TooLong) as caught:
-            self.call(*arguments)
-        self.assertEqual(caught.exception.lane, lane)
-        self.assertIs(caught.exception.lane.__class__, int)
 
 
 class Launches(Case):
@@ -70,7 +53,7 @@ class Launches(Case):
         self.is_false(is_launch, [{"a": 1, False: 0}])
 
 
-class Plain(RunCase):
+class Plain(PlainCase):
     def test_sets_for_one_lane_and_for_eight(self):
         kernel = (("x", "y"), (SET_X, SET_Y, ADD))
         self.check(kernel, [{"b": 3}], [{"x": 4, "y": 2}], [(SET_X, (0,)), (SET_Y, (0,)), (ADD, (0,))])

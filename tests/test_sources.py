@@ -1,6 +1,7 @@
 """The form of the package's files, as far as it is easy to check."""
 
 import ast
+import builtins
 import unittest
 from pathlib import Path
 
@@ -35,6 +36,19 @@ class Sources(unittest.TestCase):
                 self.assertNotIsInstance(node, ast.Import, name)
                 if isinstance(node, ast.ImportFrom):
                     self.assertTrue(node.module in LIBRARY or node.module.startswith("sideweave."), (name, node.module))
+
+    def test_names(self):
+        for name, text in self.texts.items():
+            tree = ast.parse(text)
+            imported = [part.name for node in ast.walk(tree) if isinstance(node, ast.ImportFrom) for part in node.names]
+            taken = [node.name for node in tree.body if isinstance(node, (ast.ClassDef, ast.FunctionDef))]
+            read = [node.id for node in ast.walk(tree) if isinstance(node, ast.Name) and isinstance(node.ctx, ast.Load)]
+            self.assertEqual([part for part in imported if part not in read], [], name)
+            for node in ast.walk(tree):
+                own = node.arg if isinstance(node, ast.arg) else ""
+                if isinstance(node, ast.Name) and isinstance(node.ctx, ast.Store) and node.id != "_":
+                    own = node.id
+                self.assertNotIn(own, imported + taken + dir(builtins), name)
 
 
 if __name__ == "__main__":
