@@ -1,8 +1,8 @@
 """The least price of a weave, a weave that has it, and prices that show that none is cheaper."""
 
-from sideweave.errors import TooMany
 from sideweave.kernels import check_kernel
 from sideweave.prices import FIRST_PROBLEM, check_launches, problem_within, rows_price, tally_of
+from sideweave.tables import first_state, has_keys, is_table_of, state_behind, states_up_to, steps_among
 
 MOST_STATES = 400
 MOST_STATES_IN_ALL = 1500
@@ -26,16 +26,6 @@ def is_prices(kernel, launches, thing):
     return has_states(problems, thing) and shows_bounds(tally, problems, thing)
 
 
-def first_state(problem):
-    """Return the state of a problem in which nothing is done."""
-    return (0,) * len(problem)
-
-
-def state_behind(state, sides):
-    """Return the state in which one statement more is done on each of these sides."""
-    return tuple([done + 1 if side in sides else done for side, done in enumerate(state)])
-
-
 def problems_of(tally):
     """Return a dict from the problems that prices must contain to their states, outer problems first."""
     problems = {}
@@ -54,17 +44,7 @@ def problems_of(tally):
 
 def states_of(tally, problem, room):
     """Return the ascending list of the states of a problem; raise TooMany if there are more than room."""
-    lengths = [len(tally.bodies[path]) for path in problem]
-    many = 1
-    for length in lengths:
-        many = many * (length + 1)
-    # Counted first, for as they stand the states of four sides may be many thousands.
-    if many > room:
-        raise TooMany("there are too many states")
-    states = [()]
-    for length in lengths:
-        states = [state + (done,) for state in states for done in range(length + 1)]
-    return states
+    return states_up_to([len(tally.bodies[path]) for path in problem], room)
 
 
 def problems_inside(tally, problem, states):
@@ -75,22 +55,15 @@ def problems_inside(tally, problem, states):
 
 def steps(tally, problem, state):
     """Return the steps from a state of a problem, each as the ascending tuple of its sides."""
-    alike = {}
-    for side, path in enumerate(problem):
-        body = tally.bodies[path]
-        if state[side] < len(body):
-            statement = body[state[side]]
-            key = statement if statement[0] == "set" else statement[0]
-            alike.setdefault(key, []).append(side)
-    return [sides for together in alike.values() for sides in choices(together)]
+    return steps_among([head_of(tally.bodies[path], done) for path, done in zip(problem, state)])
 
 
-def choices(together):
-    """Return all ascending tuples of one or more of these sides, which ascend."""
-    found = [()]
-    for side in together:
-        found = found + [chosen + (side,) for chosen in found]
-    return found[1:]
+def head_of(body, done):
+    """Return what the next statements of sides must have in common for a step, or None where all is done."""
+    if done == len(body):
+        return None
+    statement = body[done]
+    return statement if statement[0] == "set" else statement[0]
 
 
 def step_cost(tally, prices, problem, state, sides):
@@ -148,31 +121,7 @@ def has_states(problems, thing):
     """Tell whether a value is a dict from just these problems to dicts from just their states to integers from 0 on."""
     if not has_keys(list(problems), thing):
         return False
-    return all(has_keys(problems[problem], thing[problem]) and has_costs(thing[problem]) for problem in problems)
-
-
-def has_keys(keys, thing):
-    """Tell whether a value is a dict with just these keys, and with no boolean for an integer in them."""
-    if not isinstance(thing, dict) or len(thing) != len(keys):
-        return False
-    return all(key in thing for key in keys) and not any(has_boolean(key) for key in thing)
-
-
-def has_boolean(thing):
-    """Tell whether a value is a boolean or a tuple with one in it, however deep."""
-    if isinstance(thing, tuple):
-        return any(has_boolean(part) for part in thing)
-    return isinstance(thing, bool)
-
-
-def has_costs(table):
-    """Tell whether the values of a dict are integers from 0 on."""
-    return all(is_cost(table[state]) for state in table)
-
-
-def is_cost(thing):
-    """Tell whether a value is an integer from 0 on."""
-    return isinstance(thing, int) and not isinstance(thing, bool) and thing >= 0
+    return all(is_table_of(problems[problem], thing[problem]) for problem in problems)
 
 
 def shows_bounds(tally, problems, prices):

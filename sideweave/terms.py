@@ -9,9 +9,14 @@ MOST_LETTERS = 8
 MOST_REGISTERS = 60
 
 
+def is_count(thing):
+    """Tell whether a value is an integer from 0 on."""
+    return isinstance(thing, int) and not isinstance(thing, bool) and thing >= 0
+
+
 def is_number(thing):
     """Tell whether a value is a number: an integer from 0 to 65535."""
-    return isinstance(thing, int) and not isinstance(thing, bool) and 0 <= thing < MODULUS
+    return is_count(thing) and thing < MODULUS
 
 
 def is_name(thing):

@@ -2,7 +2,7 @@
 
 from sideweave.errors import NoBodies, NoWeave
 from sideweave.kernels import bodies_of, check_kernel, is_body
-from sideweave.terms import is_name, is_number, is_term
+from sideweave.terms import is_count, is_name, is_term
 
 MOST_BODIES = 4
 STATEMENT_WORDS = {"split": "if", "loop": "while"}
@@ -64,7 +64,7 @@ def is_choice(thing, many):
 
 def is_index(thing, many):
     """Tell whether a value is an integer from 0 to many - 1."""
-    return is_number(thing) and thing < many
+    return is_count(thing) and thing < many
 
 
 def stands_for(item, statements):
