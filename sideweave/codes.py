@@ -55,8 +55,8 @@ def check_code(thing):
 class Run:
     """A code under way: the next place, the mask in which each lane is, and the group of the lanes."""
 
-    def __init__(self, code, launch):
-        self.code = code
+    def __init__(self, instructions, launch):
+        self.instructions = instructions
         self.group = Group(launch)
         self.mask_of = [0] * len(launch)
         self.place = 0
@@ -67,7 +67,7 @@ class Run:
 
     def execute(self):
         """Execute the next instruction."""
-        instruction = self.code[self.place]
+        instruction = self.instructions[self.place]
         word = instruction[0]
         self.place += 1
         if word == "set":
@@ -91,27 +91,51 @@ class Run:
             _, yes, no = move_from[self.mask_of[lane]]
             self.mask_of[lane] = yes if lane in holding else no
 
-    def execute_all(self):
-        """Execute the instructions up to the end of the code; raise TooLong(None) if they are too many."""
+    def issue_next(self):
+        """Go on to the next issue and return it, or go on to the end and return None; raise TooLong(None) on the way.
+
+        What was done on the way is not undone then.
+        """
         issued = self.group.issued
+        before = len(issued)
         idle = 0
-        while self.place < len(self.code):
-            before = len(issued)
+        while self.place < len(self.instructions):
             self.execute()
-            idle = idle + 1 if len(issued) == before else 0
-            if idle > MOST_IDLE or len(issued) > MOST_ISSUES:
+            if len(issued) > before:
+                break
+            idle += 1
+            if idle > MOST_IDLE:
                 raise TooLong(None)
+        if len(issued) > MOST_ISSUES:
+            raise TooLong(None)
+        return issued[-1] if len(issued) > before else None
+
+    def kept(self):
+        """Return what bring_back needs to return to here."""
+        return self.place, list(self.mask_of), self.group.kept()
+
+    def bring_back(self, kept):
+        """Return to where kept was called; all that was done since is undone."""
+        self.place = kept[0]
+        self.mask_of = list(kept[1])
+        self.group.bring_back(kept[2])
 
 
 def run_code(kernel, code, launch):
     """Return the lanes' ends, with the kernel's outputs, and all issues of a code, as two lists."""
+    run = started(kernel, code, launch)
+    while run.issue_next() is not None:
+        pass
+    return run.group.ends(kernel[0]), run.group.issued
+
+
+def started(kernel, code, launch):
+    """Return the run of a code for a launch, with nothing executed; raise the errors of the arguments."""
     check_kernel(kernel)
     check_code(code)
     check_launch(launch)
     check_lanes(kernel, launch)
-    run = Run(code, launch)
-    run.execute_all()
-    return run.group.ends(kernel[0]), run.group.issued
+    return Run(code, launch)
 
 
 def code_of(kernel, weave):

@@ -32,6 +32,17 @@ class Group:
         """Return the list of the lanes' ends, as if they were done now."""
         return [outputs_among(outputs, now) for now in self.now]
 
+    def kept(self):
+        """Return what bring_back needs to return to here."""
+        return [dict(now) for now in self.now], len(self.issued)
+
+    def bring_back(self, kept):
+        """Return to where kept was called; what was issued since is forgotten."""
+        registers, many = kept
+        self.now = [dict(now) for now in registers]
+        # The list stays the same one: whoever holds it sees what was forgotten.
+        del self.issued[many:]
+
 
 def is_launch(thing):
     """Tell whether a value is a launch."""
