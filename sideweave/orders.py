@@ -20,8 +20,8 @@ class Closed:
         self.body = body
         self.needs = [[at for at in range(number) if touch(body[at], body[number])] for number in range(len(body))]
         self.closed = [()]
-        for number in range(len(body)):
-            self.closed = self.closed + [done + (number,) for done in self.closed if self.may_follow(number, done)]
+        for more in range(len(body)):
+            self.closed = self.closed + [done + (more,) for done in self.closed if self.may_follow(more, done)]
 
     def may_follow(self, number, done):
         """Tell whether all earlier statements that touch this one are in a closed set."""
